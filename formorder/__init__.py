@@ -1,0 +1,1 @@
+"""Formorder: texts that are the same, and which comes first."""

@@ -1,0 +1,46 @@
+"""What is refused ahead of a call's answer."""
+
+from formorder.codes import is_code_point
+from formorder.tables import RECORD_SIZES
+
+MOST_IN_TEXT = 100
+MOST_RECORDS = 128
+# The greatest number of each row: pool, dec, pair, cls, key, weight.
+GREATEST_NUMBERS = (4294967295, 4294967295, 4294967295, 4294967295, 4294967295, 65535)
+
+
+# Answered as -1.
+class WrongArgument(Exception):
+    pass
+
+
+# Answered as -3.
+class WrongCodePoint(Exception):
+    pass
+
+
+def check_form(form):
+    if not 0 <= form <= 3:
+        raise WrongArgument()
+
+
+def check_apart_form(form):
+    if form not in (0, 2):
+        raise WrongArgument()
+
+
+# All lengths are looked at before any number: a text that is too long counts before a wrong number of another.
+def check_texts(texts):
+    if any([len(text) > MOST_IN_TEXT for text in texts]):
+        raise WrongArgument()
+    for text in texts:
+        if not all([is_code_point(number) for number in text]):
+            raise WrongCodePoint()
+
+
+def check_rows(rows):
+    for row, size, greatest in zip(rows, RECORD_SIZES, GREATEST_NUMBERS):
+        if len(row) % size != 0 or len(row) > MOST_RECORDS * size:
+            raise WrongArgument()
+        if not all([0 <= number <= greatest for number in row]):
+            raise WrongArgument()
