@@ -36,6 +36,10 @@ def parts_of(tables, code, loosely):
     return [code]
 
 
+def first_part(tables, code, loosely):
+    return parts_of(tables, code, loosely)[0]
+
+
 def put_in_order(tables, codes):
     ordered = []
     stretch = []

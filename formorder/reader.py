@@ -5,6 +5,13 @@ CALL_FORM = 2
 CALL_IS = 3
 CALL_SAME = 4
 CALL_JOIN = 5
+CALL_OPEN = 6
+CALL_PUT = 7
+CALL_END = 8
+CALL_KEY = 9
+CALL_CMP = 10
+CALL_ORDER = 11
+CALL_FIND = 12
 
 # Of each call, by its number, how many whole numbers and how many rows it has.
 CALL_SHAPES = {
@@ -14,6 +21,12 @@ CALL_SHAPES = {
     4: (1, 2),
     5: (1, 2),
     6: (1, 0),
+    7: (0, 1),
+    8: (0, 0),
+    9: (2, 1),
+    10: (2, 2),
+    11: (2, 2),
+    12: (1, 2),
 }
 
 

@@ -1,7 +1,7 @@
 """The seven rules of right tables."""
 
 from formorder.codes import is_code_point, is_lead, is_syllable, is_vowel, touches_syllables
-from formorder.forms import apart, put_in_order
+from formorder.forms import apart, first_part, put_in_order
 from formorder.tables import LOOSE, STRICT
 
 
@@ -103,7 +103,7 @@ def pair_holds(tables, place):
         return False
     if tables.class_of(pair.a) != 0 or tables.class_of(pair.c) != 0:
         return False
-    if tables.class_of(apart(tables, [pair.a], False)[0]) != 0:
+    if tables.class_of(first_part(tables, pair.a, False)) != 0:
         return False
     if pair.c not in tables.strict:
         return False

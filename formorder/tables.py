@@ -61,6 +61,8 @@ class Tables:
         self.strict = rows_of_kind(self.decs, STRICT)
         self.loose = rows_of_kind(self.decs, LOOSE)
         self.wholes = wholes_by_parts(self.pairs)
+        self.seconds = seconds_of_pairs(self.pairs)
+        self.weights_by_codes = weights_by_keys(self.weighed, self.weights)
 
     # Ranges stand in rising order, so halving finds the one that may hold the code point.
     def class_of(self, code):
@@ -98,3 +100,17 @@ def wholes_by_parts(pairs):
     for pair in pairs:
         wholes[(pair.a, pair.b)] = pair.c
     return wholes
+
+
+def seconds_of_pairs(pairs):
+    seconds = {}
+    for pair in pairs:
+        seconds[pair.b] = True
+    return seconds
+
+
+def weights_by_keys(weighed, weights):
+    by_codes = {}
+    for key in weighed:
+        by_codes[tuple(key.codes[:key.n])] = weights[key.at:key.at + key.count]
+    return by_codes

@@ -23,31 +23,56 @@ def tables(pool=(), dec=(), pair=(), cls=(), key=(), weight=()):
     return call
 
 
-def text_call(number, form, *texts):
-    call = [number, form]
+def call_of(numbers, *texts):
+    """A call: its number with its whole numbers, then its rows."""
+    call = list(numbers)
     for text in texts:
         call += [len(text)] + list(text)
     return call
 
 
 def form(number, x):
-    return text_call(2, number, x)
+    return call_of([2, number], x)
 
 
 def is_form(number, x):
-    return text_call(3, number, x)
+    return call_of([3, number], x)
 
 
 def same(number, x, y):
-    return text_call(4, number, x, y)
+    return call_of([4, number], x, y)
 
 
 def join(number, x, y):
-    return text_call(5, number, x, y)
+    return call_of([5, number], x, y)
 
 
 def open_pieces(number):
-    return text_call(6, number)
+    return call_of([6, number])
+
+
+def put(x):
+    return call_of([7], x)
+
+
+def end():
+    return call_of([8])
+
+
+def key(level, back, x):
+    return call_of([9, level, back], x)
+
+
+def compare(level, back, x, y):
+    return call_of([10, level, back], x, y)
+
+
+def order(level, back, lengths, x):
+    return call_of([11, level, back], lengths, x)
+
+
+def find(level, x, y):
+    return call_of([12, level], x, y)
 
 
 def cut(told):

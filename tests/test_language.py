@@ -4,6 +4,7 @@ import ast
 import builtins
 import pathlib
 import re
+import tokenize
 import unittest
 
 import formorder
@@ -19,6 +20,11 @@ EXPRESSIONS = (ast.Constant, ast.List, ast.Tuple, ast.Dict, ast.BinOp, ast.Unary
 NAMES = """len range enumerate zip min max sum abs sorted reversed int str bool list tuple dict set frozenset isinstance
 ord repr any all divmod Exception ValueError TypeError KeyError IndexError LookupError ZeroDivisionError
 ArithmeticError OverflowError RuntimeError NotImplementedError AttributeError StopIteration""".split()
+KEYWORDS = dict(sorted=["key", "reverse"], min=["key", "default"], max=["key", "default"], sum=["start"],
+                enumerate=["start"], zip=["strict"])
+AS_KEY = ("len", "int", "str", "abs", "sum", "min", "max", "tuple")
+CHANGES = ("append", "clear", "extend", "insert", "pop", "remove", "reverse", "setdefault", "update")
+READERS = ("len", "list", "dict", "tuple", "sorted", "sum", "min", "max", "any", "all", "enumerate", "zip")
 METHODS = """append clear copy count endswith extend find get index insert isalnum isalpha isdigit islower isspace
 isupper items join keys ljust lower lstrip partition pop remove replace reverse rfind rjust rpartition rsplit rstrip
 setdefault split splitlines startswith strip update upper values zfill bit_length""".split()
@@ -63,6 +69,18 @@ def bound_names(tree):
         if isinstance(node, ast.Name) and isinstance(node.ctx, ast.Store):
             names.add(node.id)
     return names
+
+
+def is_call_of(node, names):
+    return isinstance(node, ast.Call) and isinstance(node.func, ast.Name) and node.func.id in names
+
+
+def classes_of_package():
+    return {node.name: node for name, node in walk_all(ast.ClassDef)}
+
+
+def parents_of(tree):
+    return {id(child): node for node in ast.walk(tree) for child in ast.iter_child_nodes(node)}
 
 
 class Files(unittest.TestCase):
@@ -151,7 +169,8 @@ class Code(unittest.TestCase):
             if isinstance(node, ast.Compare):
                 for sign, side in zip(node.ops, node.comparators):
                     if isinstance(sign, (ast.Is, ast.IsNot)):
-                        self.assertIn(getattr(side, "value", 0), (None, True, False), (name, node.lineno))
+                        beside = getattr(side, "value", 0)
+                        self.assertTrue(beside is None or beside is True or beside is False, (name, node.lineno))
 
     def test_functions_and_classes(self):
         for name, node in walk_all(ast.FunctionDef):
@@ -202,6 +221,166 @@ class Code(unittest.TestCase):
             for node in ast.walk(tree):
                 if isinstance(node, ast.Call) and isinstance(node.func, ast.Name) and node.func.id in WALKED:
                     self.assertIn(id(node), walked, (path.name, node.lineno))
+
+    def test_views_are_walked_at_once(self):
+        for path in FILES:
+            tree = tree_of(path)
+            walked = [id(node.iter) for node in ast.walk(tree) if isinstance(node, (ast.For, ast.comprehension))]
+            walked += [id(node.args[0]) for node in ast.walk(tree) if is_call_of(node, WALKERS) and node.args]
+            for node in ast.walk(tree):
+                if isinstance(node, ast.Call) and isinstance(node.func, ast.Attribute):
+                    if node.func.attr in ("items", "keys", "values"):
+                        self.assertIn(id(node), walked, (path.name, node.lineno))
+
+    def test_what_a_loop_walks_is_not_changed_in_it(self):
+        for name, loop in walk_all(ast.For):
+            walked = {ast.dump(node) for node in ast.walk(loop.iter) if isinstance(node, (ast.Name, ast.Attribute))}
+            for node in [part for line in loop.body for part in ast.walk(line)]:
+                if isinstance(node, ast.Call) and isinstance(node.func, ast.Attribute) and node.func.attr in CHANGES:
+                    self.assertNotIn(ast.dump(node.func.value), walked, (name, node.lineno))
+                if isinstance(node, ast.Subscript) and isinstance(node.ctx, ast.Store):
+                    self.assertNotIn(ast.dump(node.value), walked, (name, node.lineno))
+
+
+class Kept(unittest.TestCase):
+    """Names of a file's top, classes, and Python's own names, each where it may stand."""
+
+    def test_lists_and_dicts_of_the_top_are_only_read(self):
+        for path in FILES:
+            tree = tree_of(path)
+            for top in [node for node in tree.body if isinstance(node, ast.Assign)]:
+                for part in ast.walk(top.value):
+                    if isinstance(part, (ast.List, ast.Dict)):
+                        self.assertTrue(part is top.value, (path.name, part.lineno))
+                if isinstance(top.value, (ast.List, ast.Dict)):
+                    self.only_read(top.targets[0].id)
+
+    def only_read(self, name):
+        for path in FILES:
+            tree = tree_of(path)
+            parents = parents_of(tree)
+            for node in ast.walk(tree):
+                if not isinstance(node, ast.Name) or node.id != name or isinstance(node.ctx, ast.Store):
+                    continue
+                around = parents[id(node)]
+                read = isinstance(around, (ast.Compare, ast.comprehension, ast.For)) or is_call_of(around, READERS)
+                if isinstance(around, ast.Subscript):
+                    read = isinstance(around.ctx, ast.Load) and around.value is node
+                if isinstance(around, ast.Attribute):
+                    read = around.attr in ("get", "items", "keys", "values", "count", "index")
+                self.assertTrue(read, (path.name, node.lineno))
+
+    def test_classes(self):
+        known = classes_of_package()
+        self.assertEqual(len(known), len(list(walk_all(ast.ClassDef))))
+        for path in FILES:
+            tree = tree_of(path)
+            parents = parents_of(tree)
+            self.assertEqual({node.name for node in ast.walk(tree) if isinstance(node, ast.ClassDef)},
+                             {node.name for node in tree.body if isinstance(node, ast.ClassDef)})
+            for node in ast.walk(tree):
+                if isinstance(node, ast.Name) and node.id in known:
+                    around = parents[id(node)]
+                    stands = isinstance(around, (ast.ClassDef, ast.ExceptHandler, ast.Raise))
+                    stands = stands or (isinstance(around, ast.Call) and around.func is node)
+                    self.assertTrue(stands or is_call_of(around, ["isinstance"]), (path.name, node.lineno))
+        for node in known.values():
+            methods = [part.name for part in node.body if isinstance(part, ast.FunctionDef)]
+            self.assertEqual(len(methods), len(set(methods)), node.name)
+
+    def test_errors(self):
+        known = classes_of_package()
+        errors = [name for name in known if known[name].bases]
+        for name in errors:
+            self.assertIn(known[name].bases[0].id, errors + ["Exception", "ValueError"], name)
+        for name, node in walk_all(ast.ExceptHandler):
+            self.assertIsInstance(node.type, ast.Name, (name, node.lineno))
+            self.assertIn(node.type.id, errors + ["KeyError", "ZeroDivisionError", "StopIteration"])
+        for name, node in walk_all(ast.Raise):
+            self.assertTrue(is_call_of(node.exc, errors) and node.cause is None, (name, node.lineno))
+
+    def test_pythons_own_names_are_called(self):
+        for path in FILES:
+            tree = tree_of(path)
+            parents = parents_of(tree)
+            for node in [part for part in ast.walk(tree) if isinstance(part, ast.Name)]:
+                self.assertNotIn(node.id, ("set", "frozenset"), (path.name, node.lineno))
+                if node.id in NAMES and not node.id.endswith(("Error", "Exception", "StopIteration")):
+                    around = parents[id(node)]
+                    as_key = isinstance(around, ast.keyword) and around.arg == "key" and node.id in AS_KEY
+                    called = isinstance(around, ast.Call) and around.func is node
+                    self.assertTrue(called or as_key or is_call_of(around, ["isinstance"]), (path.name, node.lineno))
+
+    def test_keywords(self):
+        functions = {node.name for name, node in walk_all(ast.FunctionDef)} - set(METHODS)
+        for name, node in walk_all(ast.Call):
+            called = getattr(node.func, "id", getattr(node.func, "attr", None))
+            for keyword in node.keywords:
+                self.assertTrue(called in functions or keyword.arg in KEYWORDS.get(called, []), (name, node.lineno))
+
+    def test_methods_are_called_where_they_stand(self):
+        methods = {part.name for node in classes_of_package().values() for part in node.body
+                   if isinstance(part, ast.FunctionDef)}
+        values = {node.attr for name, node in walk_all(ast.Attribute) if isinstance(node.ctx, ast.Store)}
+        for path in FILES:
+            tree = tree_of(path)
+            parents = parents_of(tree)
+            for node in ast.walk(tree):
+                if isinstance(node, ast.Attribute) and node.attr in (methods | set(METHODS)) - values:
+                    around = parents[id(node)]
+                    called = isinstance(around, ast.Call) and around.func is node
+                    as_key = isinstance(around, ast.keyword) and around.arg == "key"
+                    self.assertTrue(called or as_key, (path.name, node.lineno))
+
+
+class Written(unittest.TestCase):
+    """What is written: annotations, defaults, lambdas, numbers, texts, and the methods with two underscores."""
+
+    def test_no_annotations_and_plain_defaults(self):
+        for name, node in walk_all(ast.arg):
+            self.assertIsNone(node.annotation, (name, node.lineno))
+            self.assertRegex(node.arg, r"^[A-Za-z][A-Za-z0-9_]*$")
+        for name, node in walk_all((ast.FunctionDef, ast.Lambda)):
+            self.assertTrue(all(isinstance(value, ast.Constant) for value in node.args.defaults), (name, node.lineno))
+
+    def test_attributes_are_plain_names(self):
+        for name, node in walk_all(ast.Attribute):
+            self.assertRegex(node.attr, r"^[A-Za-z][A-Za-z0-9_]*$|^__init__$")
+            self.assertNotRegex(node.attr, r"^(f|tb|co|gi|cr|ag)_", (name, node.lineno))
+
+    def test_values_are_given_through_a_local_name(self):
+        for path in FILES:
+            tops = {name for node in tree_of(path).body if isinstance(node, (ast.ClassDef, ast.Assign))
+                    for name in ([node.name] if isinstance(node, ast.ClassDef) else [node.targets[0].id])}
+            for node in ast.walk(tree_of(path)):
+                if isinstance(node, ast.Attribute) and isinstance(node.ctx, ast.Store):
+                    self.assertIsInstance(node.value, ast.Name, (path.name, node.lineno))
+                    self.assertNotIn(node.value.id, tops, (path.name, node.lineno))
+
+    def test_one_lambda_a_line(self):
+        lines = [(name, node.lineno) for name, node in walk_all(ast.Lambda)]
+        self.assertEqual(len(lines), len(set(lines)))
+
+    def test_numbers_and_texts(self):
+        for name, node in walk_all(ast.BinOp):
+            if isinstance(node.op, ast.Pow):
+                self.assertTrue(isinstance(node.right, ast.Constant) and 0 <= node.right.value <= 64)
+        for path in FILES:
+            with open(path, "rb") as file:
+                for token in tokenize.tokenize(file.readline):
+                    if token.type == tokenize.STRING:
+                        self.assertNotIn("%", token.string, (path.name, token.start))
+                        self.assertNotRegex(token.string, r"\\[^nt\\'\"]")
+                    if token.type == tokenize.NUMBER:
+                        self.assertLess(len(token.string), 900)
+
+    def test_init_gives_back_nothing(self):
+        for name, node in walk_all(ast.FunctionDef):
+            if node.name == "__init__":
+                self.assertFalse([part for part in ast.walk(node) if isinstance(part, ast.Return)], name)
+
+    def test_an_init_file_binds_no_name_of_a_file(self):
+        self.assertEqual(len(tree_of(FOLDER / "__init__.py").body), 1)
 
 
 if __name__ == "__main__":
